@@ -7,6 +7,9 @@ import (
 
 // Add returns a + b.
 func Add(a, b api.Rat) api.Rat {
+	if whole(a, b) {
+		return api.Rat{P: integer.Add(a.P, b.P)}
+	}
 	common := integer.Gcd(Den(a), Den(b))
 	left, right := part(Den(a), common), part(Den(b), common)
 	p := integer.Add(integer.Mul(a.P, right), integer.Mul(b.P, left))
@@ -20,6 +23,9 @@ func Sub(a, b api.Rat) api.Rat { return Add(a, Neg(b)) }
 
 // Mul returns a * b.
 func Mul(a, b api.Rat) api.Rat {
+	if whole(a, b) {
+		return api.Rat{P: integer.Mul(a.P, b.P)}
+	}
 	// Dividing first keeps the numbers short: no divisor is left in common by the products.
 	first, second := integer.Gcd(a.P, Den(b)), integer.Gcd(b.P, Den(a))
 	p := integer.Mul(part(a.P, first), part(b.P, second))
@@ -28,6 +34,11 @@ func Mul(a, b api.Rat) api.Rat {
 
 // Div returns a / b, and 0 if b is 0.
 func Div(a, b api.Rat) api.Rat {
+	if whole(a, b) {
+		if q, rest := integer.Div(a.P, b.P); integer.Sign(rest) == 0 {
+			return api.Rat{P: q}
+		}
+	}
 	switch Sign(b) {
 	case 0:
 		return api.Rat{}
@@ -60,4 +71,14 @@ func total(terms ...api.Rat) api.Rat {
 		sum = Add(sum, a)
 	}
 	return sum
+}
+
+// whole reports whether all numbers are whole: then no divisors need to be looked for.
+func whole(l ...api.Rat) bool {
+	for _, a := range l {
+		if len(a.Q.D) > 0 {
+			return false
+		}
+	}
+	return true
 }
